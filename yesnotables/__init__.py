@@ -1,0 +1,1 @@
+"""Tables of yes and no: what can come of using them one behind another."""
