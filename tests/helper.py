@@ -1,14 +1,18 @@
 """What the tests share: the calls as lists, and a slow second writing of the document to compare with."""
 
+import unittest
+
 from yesnotables.tables import answers
 
 LARGEST = 4294967295
 LARGEST_IN_ROW = 65535
 
 NO_SUCH = [-2]
+NO_CHANGE = [-6]
 NOT_BEGUN = [-11]
 NOT_AS_TOLD = [-22]
 TOO_MANY = [-28]
+THERE_IS_NONE = [-33]
 
 
 def with_length(row):
@@ -59,9 +63,48 @@ def nth(i):
     return [10, i]
 
 
-# One of each call that has no answer of its own yet: come, nothing, full, met, sets, lead, round, still,
-# commute, back, state.
-LATER_CALLS = [[11, 1, 0], [12], [13], [14], [15, 0], [16, 0, 0], [17, 0], [18], [19, 0, 0], [20], [21]]
+def come(row):
+    return [11] + with_length(row)
+
+
+def nothing():
+    return [12]
+
+
+def full():
+    return [13]
+
+
+def met():
+    return [14]
+
+
+def sets(s):
+    return [15, s]
+
+
+def lead(s, u):
+    return [16, s, u]
+
+
+def round_of(k):
+    return [17, k]
+
+
+def still():
+    return [18]
+
+
+def commute(k, j):
+    return [19, k, j]
+
+
+def back():
+    return [20]
+
+
+def state():
+    return [21]
 
 
 def joined(calls):
@@ -80,6 +123,7 @@ def split(given):
 
 def told(*calls):
     """What is answered to the calls, one list a call."""
+    assert 1 <= len(calls) <= 256, "no such list is handed in"
     return split(answers(joined(calls)))
 
 
@@ -87,10 +131,51 @@ def last_told(*calls):
     return told(*calls)[-1]
 
 
-def look_around():
-    """Calls that together show all of an object that can be seen."""
+def look_at_tables():
+    """Calls that together show all that hangs on the places and tables."""
     looks = [show(k) for k in range(4)] + [word([]), goes(1, []), goes(3, []), goes(7, []), count()]
-    return looks + [nth(i) for i in range(12)] + [word([0, 1, 2]), same([0], [1])]
+    looks += [nth(i) for i in range(12)] + [word([0, 1, 2]), same([0], [1])]
+    looks += [come([1]), come([1, 2]), come([1, 2, 4]), nothing(), full(), met(), still()]
+    looks += [sets(s) for s in range(9)] + [lead(s, u) for s in (1, 2, 7) for u in (0, 3, 7)]
+    return looks + [round_of(k) for k in range(4)] + [commute(0, 1), commute(1, 2), commute(2, 0)]
+
+
+def look_around():
+    """Calls that together show all of an object that can be seen without taking a change back."""
+    return look_at_tables() + [state()]
+
+
+def look_behind():
+    """Takes back one change more than can be, and shows what is there behind each."""
+    return [state()] + [back(), show(0), show(1), show(2), state()] * 11
+
+
+def all_told(made):
+    """Each (row, sets) that nth tells on these tables, up to the count."""
+    n = made[0][1]
+    size = last_told(*made, count())[0]
+    found = []
+    for first in range(0, size, 200):
+        for answered in told(*made, *[nth(i) for i in range(first, min(size, first + 200))])[len(made):]:
+            found.append((answered[1:1 + answered[0]], answered[1 + answered[0]:]))
+            assert len(answered) == 1 + answered[0] + n
+    return found
+
+
+class UnchangedTest(unittest.TestCase):
+    def check_nothing_changed(self, made, call):
+        """All that can be seen behind the call is as ahead of it, what can be taken back too."""
+        looks = look_around()
+        answered = told(*made, *looks, call, *looks)[len(made):]
+        self.assertEqual(answered[len(looks) + 1:], answered[:len(looks)])
+        # Without a look ahead of it, too: nothing may hang on what was looked for.
+        self.assertEqual(told(*made, call, *looks)[len(made) + 1:], answered[:len(looks)])
+        behind = look_behind()
+        self.assertEqual(told(*made, call, *behind)[len(made) + 1:], told(*made, *behind)[len(made):])
+
+    def check_refused(self, made, call, refusal):
+        self.assertEqual(last_told(*made, call), refusal)
+        self.check_nothing_changed(made, call)
 
 
 class Numbers:
@@ -110,6 +195,8 @@ class Model:
     def __init__(self):
         self.n = None
         self.tables = []
+        self.old = []
+        self.can_go_back = 0
 
     def pairs(self, sets):
         return frozenset((i, j) for i in range(self.n) for j in range(self.n) if sets[i] // 2 ** j % 2 == 1)
@@ -129,6 +216,11 @@ class Model:
                 here = {j for (i, j) in self.tables[k] if i in here}
             ways |= {(start, end) for end in here}
         return frozenset(ways)
+
+    def change(self, tables):
+        self.old.append(self.tables)
+        self.tables = tables
+        self.can_go_back = min(self.can_go_back + 1, 10)
 
     def no_tables(self, row):
         return any(k >= len(self.tables) for k in row)
@@ -177,6 +269,8 @@ class Model:
             return NOT_AS_TOLD
         self.n = n
         self.tables = []
+        self.old = []
+        self.can_go_back = 0
         return [0]
 
     def answer_table(self, row):
@@ -184,23 +278,23 @@ class Model:
             return NOT_AS_TOLD
         if len(self.tables) == 3:
             return TOO_MANY
-        self.tables.append(self.pairs(row))
+        self.change(self.tables + [self.pairs(row)])
         return [len(self.tables) - 1]
 
     def answer_cell(self, k, i, j):
         if k >= len(self.tables) or i >= self.n or j >= self.n:
             return NO_SUCH
-        self.tables[k] = self.tables[k] ^ {(i, j)}
+        self.change([pairs ^ {(i, j)} if m == k else pairs for m, pairs in enumerate(self.tables)])
         return [self.sets(self.tables[k])[i]]
 
     def answer_drop(self, k):
         if k >= len(self.tables):
             return NO_SUCH
-        self.tables.pop(k)
+        self.change([pairs for m, pairs in enumerate(self.tables) if m != k])
         return [len(self.tables)]
 
     def answer_turn(self):
-        self.tables = [frozenset((j, i) for (i, j) in pairs) for pairs in self.tables]
+        self.change([frozenset((j, i) for (i, j) in pairs) for pairs in self.tables])
         return [len(self.tables)]
 
     def answer_show(self, k):
@@ -233,4 +327,91 @@ class Model:
         rows = self.all_rows()
         if i >= len(rows):
             return NO_SUCH
-        return [len(rows[i])] + rows[i] + self.sets(self.comes(rows[i]))
+        return self.with_sets(rows[i])
+
+    def with_sets(self, row):
+        return [len(row)] + row + self.sets(self.comes(row))
+
+    def first_row_that(self, fits):
+        for row in self.all_rows():
+            if fits(self.comes(row)):
+                return self.with_sets(row)
+        return THERE_IS_NONE
+
+    def answer_come(self, row):
+        if len(row) != self.n or any(self.no_set(s) for s in row):
+            return NOT_AS_TOLD
+        return self.first_row_that(lambda pairs: pairs == self.pairs(row))
+
+    def answer_nothing(self):
+        return self.first_row_that(lambda pairs: not pairs)
+
+    def answer_full(self):
+        return self.first_row_that(lambda pairs: len(pairs) == self.n ** 2)
+
+    def answer_met(self):
+        every = range(self.n)
+        return self.first_row_that(lambda pairs: any(all((i, j) in pairs for i in every) for j in every))
+
+    def answer_still(self):
+        return [sum(self.comes(row + row) == self.comes(row) for row in self.all_rows())]
+
+    def led(self, s, k):
+        """Where the set s leads by table k, place by place."""
+        ends = {j for (i, j) in self.tables[k] if s // 2 ** i % 2 == 1}
+        return sum(2 ** j for j in ends)
+
+    def answer_sets(self, s):
+        if self.no_set(s):
+            return NOT_AS_TOLD
+        reached = {s}
+        while True:
+            more = reached | {self.led(t, k) for t in reached for k in range(len(self.tables))}
+            if more == reached:
+                return [len(reached)] + sorted(reached)
+            reached = more
+
+    def steps_to(self, u):
+        """How many tables the shortest row has from each set to u, found from u backwards."""
+        steps = {u: 0}
+        for length in range(1, 2 ** self.n):
+            for t in range(2 ** self.n):
+                if t not in steps and any(steps.get(self.led(t, k)) == length - 1 for k in range(len(self.tables))):
+                    steps[t] = length
+        return steps
+
+    def answer_lead(self, s, u):
+        if self.no_set(s) or self.no_set(u):
+            return NOT_AS_TOLD
+        steps = self.steps_to(u)
+        if s not in steps:
+            return THERE_IS_NONE
+        row = []
+        while s != u:
+            row.append(min(k for k in range(len(self.tables)) if steps.get(self.led(s, k)) == steps[s] - 1))
+            s = self.led(s, row[-1])
+        return [len(row)] + row
+
+    def answer_round(self, k):
+        if k >= len(self.tables):
+            return NO_SUCH
+        powers = [self.comes([k] * exponent) for exponent in range(40)]
+        for power in range(1, 20):
+            for steps in range(1, 20):
+                if powers[power] == powers[power + steps]:
+                    return [power, steps]
+
+    def answer_commute(self, k, j):
+        if max(k, j) >= len(self.tables):
+            return NO_SUCH
+        return [int(self.product(self.tables[k], self.tables[j]) == self.product(self.tables[j], self.tables[k]))]
+
+    def answer_back(self):
+        if self.can_go_back == 0:
+            return NO_CHANGE
+        self.can_go_back -= 1
+        self.tables = self.old.pop()
+        return [self.can_go_back]
+
+    def answer_state(self):
+        return [self.n, len(self.tables), self.can_go_back]

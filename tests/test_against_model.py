@@ -4,17 +4,20 @@ import itertools
 import unittest
 
 from tests.helper import (
-    LARGEST, LARGEST_IN_ROW, Model, Numbers, begin, cell, count, drop, goes, joined, nth, same, show, split, table,
-    told, turn, word)
+    LARGEST, LARGEST_IN_ROW, Model, Numbers, back, begin, cell, come, commute, count, drop, full, goes, joined, lead,
+    met, nothing, nth, round_of, same, sets, show, split, state, still, table, told, turn, word)
 from yesnotables.tables import answers
 
 FORMS = {
     "begin": begin, "table": table, "cell": cell, "drop": drop, "turn": turn, "show": show, "word": word, "goes": goes,
-    "same": same, "count": count, "nth": nth,
+    "same": same, "count": count, "nth": nth, "come": come, "nothing": nothing, "full": full, "met": met, "sets": sets,
+    "lead": lead, "round": round_of, "still": still, "commute": commute, "back": back, "state": state,
 }
 
 # Names that stand more often are called more often.
-OFTEN = ["table"] * 5 + ["cell"] * 4 + ["drop", "turn", "show", "count"] + ["word", "goes", "same", "nth"] * 2
+OFTEN = ["table"] * 8 + ["cell"] * 7 + ["drop", "turn", "back"] * 2 + [
+    "show", "count", "word", "goes", "same", "nth", "come", "nothing", "full", "met", "sets", "lead", "lead", "round",
+    "still", "commute", "state"]
 
 
 def some_number(numbers, limit):
@@ -41,12 +44,18 @@ def some_handed(numbers, name, model):
     tables = max(len(model.tables), 1)
     if name == "begin":
         return [some_number(numbers, 4)]
-    if name == "table":
+    if name in ("table", "come"):
         return [some_sets(numbers, n)]
     if name == "cell":
         return [some_number(numbers, tables), some_number(numbers, n), some_number(numbers, n)]
-    if name in ("drop", "show"):
+    if name in ("drop", "show", "round"):
         return [some_number(numbers, tables)]
+    if name == "commute":
+        return [some_number(numbers, tables), some_number(numbers, tables)]
+    if name == "sets":
+        return [some_number(numbers, 2 ** n)]
+    if name == "lead":
+        return [some_number(numbers, 2 ** n), some_number(numbers, 2 ** n)]
     if name == "word":
         return [some_row(numbers, tables, 40)]
     if name == "goes":
@@ -58,67 +67,107 @@ def some_handed(numbers, name, model):
     return []
 
 
+def model_of(n, tables):
+    model = Model()
+    model.answer("begin", n)
+    for row in tables:
+        model.answer("table", row)
+    return model
+
+
 class LongLists(unittest.TestCase):
+    def check_alike(self, seed, most_calls, often):
+        numbers = Numbers(seed)
+        model = Model()
+        calls = []
+        expected = []
+        for turn_of_call in range(1 + numbers.below(most_calls)):
+            name = "begin" if numbers.below(40) == 0 or turn_of_call == 2 else often[numbers.below(len(often))]
+            handed = some_handed(numbers, name, model)
+            calls.append(FORMS[name](*handed))
+            expected.append(model.answer(name, *handed))
+        self.assertEqual(split(answers(joined(calls))), expected, msg=f"seed {seed}")
+
     def test_alike(self):
-        for seed in range(120):
-            numbers = Numbers(seed)
-            model = Model()
-            calls = []
-            expected = []
-            for turn_of_call in range(1 + numbers.below(100)):
-                name = "begin" if numbers.below(30) == 0 or turn_of_call == 2 else OFTEN[numbers.below(len(OFTEN))]
-                handed = some_handed(numbers, name, model)
-                calls.append(FORMS[name](*handed))
-                expected.append(model.answer(name, *handed))
-            self.assertEqual(split(answers(joined(calls))), expected, msg=f"seed {seed}")
+        for seed in range(150):
+            self.check_alike(seed, 120, OFTEN)
+
+    def test_alike_to_and_fro(self):
+        often = ["table", "cell", "drop", "turn"] * 3 + ["back"] * 6 + ["show", "state", "count"]
+        for seed in range(1000, 1100):
+            self.check_alike(seed, 256, often)
 
 
 class AllSmallTables(unittest.TestCase):
+    def check_looks(self, n, tables, looks):
+        """Each look is a name and what is handed in with it."""
+        model = model_of(n, tables)
+        calls = [FORMS[look[0]](*look[1:]) for look in looks]
+        answered = told(begin(n), *[table(row) for row in tables], *calls)[1 + len(tables):]
+        self.assertEqual(answered, [model.answer(*look) for look in looks], msg=f"tables {tables}")
+
     def check_all_that_can_come(self, n, tables):
-        model = Model()
-        model.answer("begin", n)
-        for sets in tables:
-            model.answer("table", sets)
+        model = model_of(n, tables)
+        made = [begin(n)] + [table(row) for row in tables]
         rows = model.all_rows()
         looks = [count()] + [nth(i) for i in range(len(rows) + 1)]
-        expected = [[len(rows)]] + [[len(row)] + row + model.sets(model.comes(row)) for row in rows] + [[-2]]
-        self.assertEqual(told(begin(n), *[table(sets) for sets in tables], *looks)[1 + len(tables):], expected)
+        expected = [[len(rows)]] + [model.with_sets(row) for row in rows] + [[-2]]
+        # One list has no more than 256 calls.
+        for first in range(0, len(looks), 250):
+            self.assertEqual(told(*made, *looks[first:first + 250])[len(made):], expected[first:first + 250])
+        self.check_looks(n, tables, [("nothing",), ("full",), ("met",), ("still",)])
+
+    def check_sets_and_leads(self, n, tables):
+        every = range(2 ** n)
+        self.check_looks(n, tables, [("sets", s) for s in every] + [("lead", s, u) for s in every for u in every])
+
+    def check_come(self, n, tables):
+        for row in itertools.product(range(2 ** n), repeat=n):
+            self.check_looks(n, tables, [("come", list(row))])
 
     def test_one_place(self):
         for size in range(4):
             for tables in itertools.product([[0], [1]], repeat=size):
                 self.check_all_that_can_come(1, tables)
+                self.check_sets_and_leads(1, tables)
+                self.check_come(1, tables)
+                self.check_looks(1, tables, [("commute", k, j) for k in range(4) for j in range(4)])
 
     def test_two_places_up_to_two_tables(self):
-        every = [list(sets) for sets in itertools.product(range(4), repeat=2)]
+        every = [list(row) for row in itertools.product(range(4), repeat=2)]
         for size in range(3):
             for tables in itertools.product(every, repeat=size):
                 self.check_all_that_can_come(2, tables)
+                self.check_sets_and_leads(2, tables)
+                self.check_come(2, tables)
 
     def test_two_places_three_tables(self):
         numbers = Numbers(5)
         for time in range(300):
-            self.check_all_that_can_come(2, [[numbers.below(4) for i in range(2)] for k in range(3)])
+            tables = [[numbers.below(4) for i in range(2)] for k in range(3)]
+            self.check_all_that_can_come(2, tables)
+            self.check_sets_and_leads(2, tables)
 
     def test_three_places_one_table(self):
-        for sets in itertools.product(range(8), repeat=3):
-            self.check_all_that_can_come(3, [list(sets)])
+        for row in itertools.product(range(8), repeat=3):
+            self.check_all_that_can_come(3, [list(row)])
+            self.check_sets_and_leads(3, [list(row)])
+            self.check_looks(3, [list(row)], [("round", 0), ("round", 1), ("commute", 0, 0), ("commute", 0, 1)])
 
     def test_three_places_more_tables(self):
         numbers = Numbers(6)
         for time in range(150):
             size = 2 + numbers.below(2)
-            self.check_all_that_can_come(3, [[numbers.below(8) for i in range(3)] for k in range(size)])
+            tables = [[numbers.below(8) for i in range(3)] for k in range(size)]
+            self.check_all_that_can_come(3, tables)
+            self.check_sets_and_leads(3, tables)
+            self.check_looks(3, tables, [("commute", k, j) for k in range(4) for j in range(4)])
 
     def test_two_places_all_pairs_multiplied(self):
-        every = [list(sets) for sets in itertools.product(range(4), repeat=2)]
-        for first, second in itertools.product(every, repeat=2):
-            model = Model()
-            model.answer("begin", 2)
-            model.answer("table", first)
-            model.answer("table", second)
-            answered = told(begin(2), table(first), table(second), word([0, 1]), same([0, 1], [1, 0]))
-            self.assertEqual(answered[3:], [model.answer("word", [0, 1]), model.answer("same", [0, 1], [1, 0])])
+        every = [list(row) for row in itertools.product(range(4), repeat=2)]
+        for tables in itertools.product(every, repeat=2):
+            self.check_looks(2, tables, [("word", [0, 1]), ("same", [0, 1], [1, 0]), ("commute", 0, 1),
+                                         ("commute", 1, 0), ("round", 0), ("round", 1)])
 
 
 if __name__ == "__main__":

@@ -3,22 +3,26 @@
 import unittest
 
 from tests.helper import (
-    LARGEST, LARGEST_IN_ROW, LATER_CALLS, NOT_AS_TOLD, NOT_BEGUN, NO_SUCH, begin, cell, count, drop, goes, joined,
-    last_told, look_around, nth, same, show, table, told, turn, word)
+    LARGEST, LARGEST_IN_ROW, NOT_AS_TOLD, NOT_BEGUN, NO_SUCH, THERE_IS_NONE, UnchangedTest, back, begin, cell, come,
+    commute, count, drop, full, goes, joined, last_told, lead, look_around, look_behind, met, nothing, nth, round_of,
+    same, sets, show, state, still, table, told, turn, word)
 from yesnotables.tables import answers
 
 ALL_OTHERS = [
     table([1]), cell(0, 0, 0), drop(0), turn(), show(0), word([]), goes(1, []), same([], []), count(), nth(0),
-] + LATER_CALLS
+    come([1]), nothing(), full(), met(), sets(0), lead(0, 0), round_of(0), still(), commute(0, 0), back(), state(),
+]
 
 REFUSED_ANYWAY = [
     table([]), table([1, 2, 4, 1, 2, 4]), table([LARGEST_IN_ROW] * 6), cell(LARGEST, LARGEST, LARGEST), drop(LARGEST),
     show(LARGEST), word([LARGEST_IN_ROW] * 40), goes(LARGEST, [LARGEST_IN_ROW] * 40),
-    same([LARGEST_IN_ROW] * 40, [LARGEST_IN_ROW] * 40), nth(LARGEST),
+    same([LARGEST_IN_ROW] * 40, [LARGEST_IN_ROW] * 40), nth(LARGEST), come([]), come([LARGEST_IN_ROW] * 6),
+    sets(LARGEST), lead(LARGEST, 0), lead(0, LARGEST), lead(LARGEST, LARGEST), round_of(LARGEST),
+    commute(LARGEST, LARGEST),
 ]
 
 
-class Begin(unittest.TestCase):
+class Begin(UnchangedTest):
     def test_whole_list(self):
         self.assertEqual(answers([0, 1]), [1, 0])
         self.assertEqual(answers([0, 2]), [1, 0])
@@ -34,6 +38,8 @@ class Begin(unittest.TestCase):
         for n in (1, 2, 3):
             self.assertEqual(told(begin(n), show(0), drop(0), count(), nth(0), turn()),
                              [[0], NO_SUCH, NO_SUCH, [0], NO_SUCH, [0]])
+            self.assertEqual(told(begin(n), state(), come([1] * n), nothing(), full(), met(), still(), round_of(0))[1:],
+                             [[n, 0, 0]] + [THERE_IS_NONE] * 4 + [[0], NO_SUCH])
 
     def test_refused(self):
         self.assertEqual(answers([0, 0]), [1, -22])
@@ -47,15 +53,11 @@ class Begin(unittest.TestCase):
 
     def test_refused_leaves_all_as_it_was(self):
         made = [begin(2), table([2, 1]), table([1, 0])]
-        looks = look_around()
         for n in (0, 4, LARGEST):
-            answered = told(*made, *looks, begin(n), *looks)
-            before = answered[len(made):len(made) + len(looks)]
-            self.assertEqual(answered[len(made) + len(looks)], NOT_AS_TOLD)
-            self.assertEqual(answered[len(made) + len(looks) + 1:], before)
+            self.check_refused(made, begin(n), NOT_AS_TOLD)
 
     def test_again_is_as_new(self):
-        looks = look_around()
+        looks = look_around() + look_behind()
         for n in (1, 2, 3):
             fresh = told(begin(n), *looks)
             for made in ([], [table([7, 0, 1])], [table([2, 4, 1]), table([2, 1, 4]), table([1, 2, 5]), count()]):
@@ -94,7 +96,7 @@ class NotBegun(unittest.TestCase):
         self.assertEqual(told(*REFUSED_ANYWAY), [NOT_BEGUN] * len(REFUSED_ANYWAY))
 
     def test_nothing_of_it_stays(self):
-        looks = look_around()
+        looks = look_around() + look_behind()
         answered = told(*ALL_OTHERS, begin(1), *looks)
         self.assertEqual(answered[len(ALL_OTHERS):], told(begin(1), *looks))
 

@@ -3,24 +3,12 @@
 import unittest
 
 from tests.helper import (
-    LARGEST, LARGEST_IN_ROW, NOT_AS_TOLD, NO_SUCH, TOO_MANY, begin, cell, count, drop, goes, last_told, look_around,
-    nth, show, table, told, turn, word)
+    LARGEST, LARGEST_IN_ROW, NOT_AS_TOLD, NO_SUCH, TOO_MANY, UnchangedTest, begin, cell, count, drop, goes, last_told,
+    look_at_tables, nth, show, table, told, turn, word)
 from yesnotables.tables import answers
 
 
-class RefusedTest(unittest.TestCase):
-    def check_refused(self, made, call, refusal):
-        """The call is answered by the refusal alone, and all that can be seen is as it was."""
-        looks = look_around()
-        answered = told(*made, *looks, call, *looks)
-        before = answered[len(made):len(made) + len(looks)]
-        self.assertEqual(answered[len(made) + len(looks)], refusal)
-        self.assertEqual(answered[len(made) + len(looks) + 1:], before)
-        # Without a look ahead of it, too: nothing may hang on what was looked for.
-        self.assertEqual(told(*made, call, *looks)[len(made) + 1:], before)
-
-
-class Table(RefusedTest):
+class Table(UnchangedTest):
     def test_whole_list(self):
         self.assertEqual(answers([0, 2, 1, 2, 2, 1, 1, 2, 0, 3, 1, 2, 1, 1, 5, 0, 5, 1, 5, 2]),
                          [1, 0, 1, 0, 1, 1, 1, 2, 3, 2, 2, 1, 3, 2, 0, 3, 3, 2, 1, 1])
@@ -81,7 +69,7 @@ class Table(RefusedTest):
                          [[0], [0], [1], [2], TOO_MANY, [2], [2], [1, 0]])
 
 
-class Cell(RefusedTest):
+class Cell(UnchangedTest):
     def test_whole_list(self):
         self.assertEqual(answers([0, 2, 1, 2, 0, 0, 2, 0, 0, 1, 2, 0, 1, 0, 2, 0, 0, 0, 2, 0, 0, 1, 5, 0]),
                          [1, 0, 1, 0, 1, 2, 1, 1, 1, 3, 1, 1, 3, 2, 1, 1])
@@ -127,7 +115,7 @@ class Cell(RefusedTest):
         self.check_refused([begin(3), table([1, 2, 4])], cell(LARGEST, LARGEST, LARGEST), NO_SUCH)
 
 
-class Drop(RefusedTest):
+class Drop(UnchangedTest):
     def test_whole_list(self):
         self.assertEqual(answers([0, 1, 1, 1, 1, 1, 1, 0, 3, 0, 5, 0, 3, 0, 5, 0]),
                          [1, 0, 1, 0, 1, 1, 1, 1, 2, 1, 0, 1, 0, 1, -2])
@@ -190,7 +178,7 @@ class Turn(unittest.TestCase):
 
     def test_twice_is_as_it_was(self):
         made = [begin(3), table([6, 0, 1]), table([2, 4, 1]), table([1, 3, 7])]
-        looks = look_around()
+        looks = look_at_tables()
         answered = told(*made, *looks, turn(), *looks, turn(), *looks)
         size = len(looks)
         self.assertEqual(answered[-size:], answered[4:4 + size])

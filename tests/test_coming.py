@@ -3,7 +3,7 @@
 import unittest
 
 from tests.helper import (
-    LARGEST, NO_SUCH, Model, begin, cell, count, drop, last_told, look_around, nth, table, told, turn, word)
+    LARGEST, NO_SUCH, Model, UnchangedTest, all_told, begin, cell, count, drop, last_told, nth, table, told, turn, word)
 from yesnotables.tables import answers
 
 # As many as were found to come of 3 tables, and as long a row as was found.
@@ -11,19 +11,7 @@ MANY = [begin(3), table([2, 4, 1]), table([6, 2, 1]), table([0, 1, 2])]
 LONG = [begin(3), table([2, 0, 1]), table([5, 1, 2]), table([2, 4, 1])]
 
 
-def all_told(made):
-    """Each (row, sets) that nth tells, up to the count."""
-    n = made[0][1]
-    size = last_told(*made, count())[0]
-    found = []
-    for first in range(0, size, 200):
-        for answered in told(*made, *[nth(i) for i in range(first, min(size, first + 200))])[len(made):]:
-            found.append((answered[1:1 + answered[0]], answered[1 + answered[0]:]))
-            assert len(answered) == 1 + answered[0] + n
-    return found
-
-
-class Count(unittest.TestCase):
+class Count(UnchangedTest):
     def test_whole_list(self):
         self.assertEqual(answers([0, 2, 1, 2, 2, 1, 9, 1, 2, 1, 0, 9]), [1, 0, 1, 0, 1, 2, 1, 1, 1, 7])
 
@@ -66,14 +54,14 @@ class Count(unittest.TestCase):
             [[0], [0], [2], [1], [7], [0], [3], [2], [3], [1], [1], [0], [0]])
 
     def test_counting_changes_nothing(self):
-        looks = look_around()
-        made = [begin(2), table([2, 1]), table([1, 0])]
-        self.assertEqual(told(*made, count(), count(), *looks)[5:], told(*made, *looks)[3:])
+        for made in ([begin(2), table([2, 1]), table([1, 0])], [begin(3)], MANY):
+            self.check_nothing_changed(made, count())
 
 
-class Nth(unittest.TestCase):
+class Nth(UnchangedTest):
     def test_whole_list(self):
-        self.assertEqual(answers([0, 2, 1, 2, 2, 1, 1, 2, 1, 0, 10, 0, 10, 1, 10, 2, 10, 3, 10, 4, 10, 5, 10, 6, 10, 7]),
+        self.assertEqual(answers([0, 2, 1, 2, 2, 1, 1, 2, 1, 0,
+                                  10, 0, 10, 1, 10, 2, 10, 3, 10, 4, 10, 5, 10, 6, 10, 7]),
                          [1, 0, 1, 0, 1, 1,
                           4, 1, 0, 2, 1,
                           4, 1, 1, 1, 0,
@@ -164,10 +152,9 @@ class Nth(unittest.TestCase):
         self.assertEqual(told(begin(2), table([3, 0]), nth(0), turn(), nth(0))[2:], [[1, 0, 3, 0], [1], [1, 0, 1, 1]])
 
     def test_looking_changes_nothing(self):
-        looks = look_around()
         made = [begin(2), table([2, 1]), table([1, 0])]
         for call in (nth(0), nth(6), nth(7), nth(LARGEST)):
-            self.assertEqual(told(*made, call, *looks)[4:], told(*made, *looks)[3:])
+            self.check_nothing_changed(made, call)
 
 
 if __name__ == "__main__":

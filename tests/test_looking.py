@@ -1,10 +1,10 @@
-"""Promise 3: show, word, goes, same."""
+"""Promise 3: show, word, goes, same, commute."""
 
 import unittest
 
 from tests.helper import (
-    LARGEST, LARGEST_IN_ROW, NOT_AS_TOLD, NO_SUCH, begin, drop, goes, last_told, look_around, same, show, table, told,
-    word)
+    LARGEST, LARGEST_IN_ROW, NOT_AS_TOLD, NO_SUCH, UnchangedTest, back, begin, cell, commute, drop, goes, last_told,
+    same, show, table, told, turn, word)
 from yesnotables.tables import answers
 
 # Table 0 goes round by three places, table 1 is nothing, table 2 may go from 0 to 0 and 1, from 1 to 2.
@@ -193,14 +193,64 @@ class Same(unittest.TestCase):
                 self.assertEqual(last_told(*MADE, same(row, row)), NO_SUCH)
 
 
-class LookingChangesNothing(unittest.TestCase):
+class Commute(unittest.TestCase):
+    def test_whole_list(self):
+        self.assertEqual(answers([0, 2, 19, 0, 0, 1, 2, 2, 1, 1, 2, 1, 0, 1, 2, 3, 3,
+                                  19, 0, 1, 19, 0, 2, 19, 1, 1, 19, 1, 3]),
+                         [1, 0, 1, -2, 1, 0, 1, 1, 1, 2, 1, 0, 1, 1, 1, 1, 1, -2])
+
+    def test_either_order_told(self):
+        # Behind nothing and ahead of it comes nothing; going round and table 2 differ by which is first.
+        for k, j, alike in ((0, 1, 1), (1, 2, 1), (0, 2, 0)):
+            self.assertEqual(told(*MADE, commute(k, j), commute(j, k))[4:], [[alike], [alike]])
+
+    def test_with_itself(self):
+        for k in range(3):
+            self.assertEqual(last_told(*MADE, commute(k, k)), [1])
+
+    def test_each_at_its_place_with_all(self):
+        made = [begin(3), table([1, 2, 4]), table([2, 4, 1]), table([3, 4, 0])]
+        self.assertEqual(told(*made, commute(0, 1), commute(0, 2), commute(1, 2))[4:], [[1], [1], [0]])
+
+    def test_a_table_told_twice(self):
+        self.assertEqual(last_told(begin(2), table([3, 1]), table([3, 1]), commute(0, 1)), [1])
+
+    def test_one_place(self):
+        made = [begin(1), table([0]), table([1])]
+        self.assertEqual(told(*made, commute(0, 1), commute(1, 0), commute(1, 1))[3:], [[1]] * 3)
+
+    def test_differs_from_one_place_alone(self):
+        # 0 and 1 swapped, then 1 and 2; or the other way round.
+        self.assertEqual(last_told(begin(3), table([2, 1, 4]), table([1, 4, 2]), commute(0, 1)), [0])
+        self.assertEqual(last_told(begin(3), table([1, 2, 0]), table([1, 2, 6]), commute(0, 1)), [0])
+        self.assertEqual(last_told(begin(3), table([0, 2, 4]), table([3, 2, 4]), commute(0, 1)), [0])
+
+    def test_as_same_tells(self):
+        for k in range(3):
+            for j in range(3):
+                self.assertEqual(last_told(*MADE, commute(k, j)), last_told(*MADE, same([k, j], [j, k])))
+
+    def test_no_such_table(self):
+        for n in (1, 2, 3):
+            self.assertEqual(told(begin(n), commute(0, 0), commute(0, 1))[1:], [NO_SUCH] * 2)
+        for wrong in (3, 4, 65536, LARGEST - 1, LARGEST):
+            for k, j in ((wrong, 0), (0, wrong), (wrong, wrong), (2, wrong), (wrong, 2)):
+                self.assertEqual(last_told(*MADE, commute(k, j)), NO_SUCH)
+        self.assertEqual(last_told(*MADE, drop(0), commute(1, 2)), NO_SUCH)
+
+    def test_follows_each_change(self):
+        made = [begin(2), table([2, 1]), table([1, 0])]
+        asked = commute(0, 1)
+        self.assertEqual(told(*made, asked, cell(1, 1, 1), asked, back(), asked, turn(), asked, drop(1), asked, back(),
+                              asked, cell(1, 0, 0), asked)[3:],
+                         [[0], [2], [1], [2], [0], [2], [0], [1], [-2], [3], [0], [0], [1]])
+
+
+class LookingChangesNothing(UnchangedTest):
     def test_answered_and_refused(self):
-        looks = look_around()
-        before = told(*MADE, *looks)[4:]
         for call in (show(0), show(3), word([0, 1, 2]), word([3]), goes(5, [0, 2]), goes(5, [3]), goes(8, [0]),
-                     same([0, 2], [2, 0]), same([0], [3]), same([], [])):
-            self.assertEqual(told(*MADE, call, *looks)[5:], before)
-            self.assertEqual(told(*MADE, *looks, call, *looks)[5 + len(looks):], before)
+                     same([0, 2], [2, 0]), same([0], [3]), same([], []), commute(0, 2), commute(1, 2), commute(0, 3)):
+            self.check_nothing_changed(MADE, call)
 
 
 if __name__ == "__main__":

@@ -46,15 +46,15 @@ def what_comes(places, tables, row):
     return comes
 
 
-# A list of (row, table) for each table that comes of one table at least, in the order of the rows.
+# A list of (row, table) for each table that comes behind start by one table at least, in the order of the rows.
 # A table's row without its last number is itself the row of what comes of it: did a row ahead of it
 # give the same, that one with the last number behind it would be ahead of the table's row.
 # So only the rows that were found last need to be made longer.
-def all_that_can_come(places, tables):
+def all_that_comes_behind(start, tables):
     found = []
     seen = {}
     # The row of no tables is only a start: its table counts where a row with tables gives it.
-    latest = [((), without_tables(places))]
+    latest = [((), start)]
     while latest:
         longer = []
         for row, comes in latest:
@@ -66,3 +66,50 @@ def all_that_can_come(places, tables):
         found.extend(longer)
         latest = longer
     return found
+
+
+def all_that_can_come(places, tables):
+    return all_that_comes_behind(without_tables(places), tables)
+
+
+# A list of (row, set) for each set that one may come to from start, in the order of the rows.
+# A set goes on like a set of a table: so it is followed as a table that has no other.
+def all_sets_from(start, tables):
+    # One is at the start by no table: a row that leads back to it is no shorter.
+    found = [((), start)]
+    for row, comes in all_that_comes_behind((start,), tables):
+        if comes[0] != start:
+            found.append((row, comes[0]))
+    return found
+
+
+# The least power that comes again, and by how many steps: all behind it go round in these.
+def way_round(table):
+    exponents = {}
+    power = table
+    exponent = 1
+    while power not in exponents:
+        exponents[power] = exponent
+        power = multiplied(power, table)
+        exponent += 1
+    return (exponents[power], exponent - exponents[power])
+
+
+def is_nothing(table):
+    return all([step == 0 for step in table])
+
+
+def is_everything(table):
+    everywhere = (1 << len(table)) - 1
+    return all([step == everywhere for step in table])
+
+
+def all_meet(table):
+    common = table[0]
+    for step in table:
+        common = common & step
+    return common != 0
+
+
+def stays_if_doubled(table):
+    return multiplied(table, table) == table

@@ -1,19 +1,23 @@
 """The calls on one object, handed in and answered as one list of whole numbers."""
 
-from yesnotables.steps import all_that_can_come, mirrored, what_comes, where_to, with_cell_changed
+from yesnotables.steps import (
+    all_meet, all_sets_from, all_that_can_come, is_everything, is_nothing, mirrored, stays_if_doubled, way_round,
+    what_comes, where_to, with_cell_changed)
 
 NO_SUCH = -2
+NO_CHANGE = -6
 NOT_BEGUN = -11
 NOT_AS_TOLD = -22
 TOO_MANY = -28
+THERE_IS_NONE = -33
 
 MOST_PLACES = 3
 MOST_TABLES = 3
+MOST_TAKEN_BACK = 10
 
 BEGIN = 0
 
 # Of each call, by its number: how many whole numbers, then how many rows are handed in with it.
-# Calls that have no answer of their own yet stand here too: before a begin they are refused like all others.
 FORMS = (
     (1, 0),  # begin
     (0, 1),  # table
@@ -45,16 +49,23 @@ class Board:
     def __init__(self):
         self.places = 0
         self.tables = ()
+        self.earlier = []
         self.coming = None
 
     def begin(self, places):
         self.places = places
         self.tables = ()
+        self.earlier = []
         self.coming = None
 
-    # Every change comes by here, and none writes into the earlier tables, so that they can be kept.
+    # Every change comes by here, and none writes into the earlier tables: they are kept as they were.
     def change(self, tables):
+        self.earlier = (self.earlier + [self.tables])[-MOST_TAKEN_BACK:]
         self.tables = tables
+        self.coming = None
+
+    def take_back(self):
+        self.tables = self.earlier.pop()
         self.coming = None
 
     def has_table(self, k):
@@ -195,6 +206,79 @@ def with_its_row(found):
     return [len(row)] + list(row) + list(found[1])
 
 
+# What is sought stands in the order of the rows, so the first has no longer row than any.
+def first_with_its_row(sought):
+    if not sought:
+        return [THERE_IS_NONE]
+    return with_its_row(sought[0])
+
+
+def answer_come(board, handed):
+    row = handed[0]
+    if not board.has_sets(row):
+        return [NOT_AS_TOLD]
+    return first_with_its_row([found for found in board.all_coming() if found[1] == tuple(row)])
+
+
+def answer_nothing(board, handed):
+    return first_with_its_row([found for found in board.all_coming() if is_nothing(found[1])])
+
+
+def answer_full(board, handed):
+    return first_with_its_row([found for found in board.all_coming() if is_everything(found[1])])
+
+
+def answer_met(board, handed):
+    return first_with_its_row([found for found in board.all_coming() if all_meet(found[1])])
+
+
+def answer_sets(board, handed):
+    s = handed[0]
+    if not board.has_set(s):
+        return [NOT_AS_TOLD]
+    reached = [found[1] for found in all_sets_from(s, board.tables)]
+    return [len(reached)] + sorted(reached)
+
+
+def answer_lead(board, handed):
+    s = handed[0]
+    u = handed[1]
+    if not board.has_set(s) or not board.has_set(u):
+        return [NOT_AS_TOLD]
+    for row, reached in all_sets_from(s, board.tables):
+        if reached == u:
+            return [len(row)] + list(row)
+    return [THERE_IS_NONE]
+
+
+def answer_round(board, handed):
+    k = handed[0]
+    if not board.has_table(k):
+        return [NO_SUCH]
+    return list(way_round(board.tables[k]))
+
+
+def answer_still(board, handed):
+    return [len([found for found in board.all_coming() if stays_if_doubled(found[1])])]
+
+
+def answer_commute(board, handed):
+    k = handed[0]
+    j = handed[1]
+    return answer_same(board, [[k, j], [j, k]])
+
+
+def answer_back(board, handed):
+    if not board.earlier:
+        return [NO_CHANGE]
+    board.take_back()
+    return [len(board.earlier)]
+
+
+def answer_state(board, handed):
+    return [board.places, len(board.tables), len(board.earlier)]
+
+
 WORK = {
     0: answer_begin,
     1: answer_table,
@@ -207,6 +291,17 @@ WORK = {
     8: answer_same,
     9: answer_count,
     10: answer_nth,
+    11: answer_come,
+    12: answer_nothing,
+    13: answer_full,
+    14: answer_met,
+    15: answer_sets,
+    16: answer_lead,
+    17: answer_round,
+    18: answer_still,
+    19: answer_commute,
+    20: answer_back,
+    21: answer_state,
 }
 
 
